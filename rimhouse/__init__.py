@@ -1,0 +1,1 @@
+"""Rimhouse: houses held against the best mix of others."""
