@@ -1,5 +1,6 @@
 """Books of houses, and mixes of the houses of a book."""
 
+from rimhouse.errors import NoHouse
 from rimhouse.fractions import ONE, compared, lowest, over_one_bottom, total
 
 MOST_HOUSES = 16
@@ -28,6 +29,14 @@ def is_book(thing):
     if not (1 <= len(takes) <= MOST_KINDS and 1 <= len(gives) <= MOST_KINDS):
         return False
     return all([is_house(house, len(takes), len(gives)) for house in thing])
+
+
+def house_of(book, number):
+    """The house of this number."""
+    # Asked by hand, since an index below 0 would tell a house from the end.
+    if not 0 <= number < len(book):
+        raise NoHouse(f"no house has the number {number}")
+    return book[number]
 
 
 def come_together(rows, tops, bottom):
