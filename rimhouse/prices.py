@@ -84,6 +84,22 @@ def greatest_given(houses, house, sizes):
     return greatest(given, house_rows(houses, sizes) + [paid], [0] * len(houses) + [1])
 
 
+def greatest_floor(houses, number, sizes):
+    """The greatest floor, no more than 1, under all prices for takes and gives at which a house stands firm.
+
+    It stands firm where it earns no less than it pays, and none of the houses, of which it is one, does
+    better. Told is what greatest tells, with amounts for what the prices lie above the floor, in the order
+    of house_rows, and one for the floor, and with weights for the houses, for this house's standing
+    firm, and for the floor. By prices times as much a floor above 0 is 1, so it is 1 or 0.
+    """
+    rows = house_rows(houses, sizes)
+    floors = [sum(gives) - sum(takes) for takes, gives in houses]
+    rows = [row + [floor] for row, floor in zip(rows, floors)]
+    firm = [-one for one in rows[number]]
+    goal = [0] * (len(firm) - 1) + [1]
+    return greatest(goal, rows + [firm, goal], [0] * len(houses) + [0, 1])
+
+
 def told_prices(house, sizes, amounts, bottom):
     """Prices out of the amounts that were found for them, in the order of house_rows."""
     takes, gives = house
