@@ -5,10 +5,19 @@ from rimhouse.fractions import lowest
 from rimhouse.prices import greatest_earned, greatest_given, told_prices
 
 
+def held_against(houses, house, sizes):
+    """The share of a house by mixes of houses of which it need not be one, None where none gives out as much."""
+    found = greatest_earned(houses, house, sizes)
+    # Where no mix gives out as much, prices can be found at which the house earns as much as one likes.
+    if found is None:
+        return None
+    top, amounts, weights, bottom = found
+    return lowest(top, bottom)
+
+
 def share(book, number, sizes):
     """The share of a house, by sizes."""
-    top, amounts, weights, bottom = greatest_earned(book, house_of(book, number), sizes)
-    return lowest(top, bottom)
+    return held_against(book, house_of(book, number), sizes)
 
 
 def share_shown(book, number, sizes):

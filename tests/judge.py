@@ -133,6 +133,25 @@ def prices_rim(book, number, sizes, prices):
     return all(read(one) > 0 for one in prices[0] + prices[1]) and earns(house, prices) == pays(house, prices)
 
 
+# A house out of the way [11, 20]
+
+# More times over than any mix of other houses could take in what a house takes in.
+FAR = 10 ** 20
+
+
+def swollen(house):
+    """The house, taking in so much more that no mix gains by it, unless it must."""
+    takes, gives = house
+    return (tuple(take * FAR for take in takes), gives)
+
+
+# Numbers that are none of a house [4]
+
+def no_houses(book):
+    many = len(book)
+    return (-1, -2, -many, -many - 1, many, many + 1, 10 ** 9, 10 ** 39, -10 ** 39)
+
+
 # Books to try
 
 def amounts(chance, many, low, high):

@@ -11,15 +11,6 @@ from rimhouse.others import share_of_others
 from rimhouse.rims import rim_of
 from rimhouse.shares import share, share_shown
 
-# More times over than any mix of the others could take in what a house of a book takes in.
-FAR = 10 ** 20
-
-
-def swollen(book, number):
-    """The book with one house that takes in so much more that no mix gains by it, unless it must."""
-    takes, gives = book[number]
-    return book[:number] + [(tuple(take * FAR for take in takes), gives)] + book[number + 1:]
-
 
 class ByHand(unittest.TestCase):
     def check(self, book, number, **expected):
@@ -85,14 +76,14 @@ class ByHand(unittest.TestCase):
 class AtManyBooks(unittest.TestCase):
     def check_swollen(self, book, number, sizes, answer):
         """By a house that no mix gains by, the share among all is that against the others, and is shown."""
-        far = swollen(book, number)
+        far = book[:number] + [judge.swollen(book[number])] + book[number + 1:]
         fraction, mix, prices = share_shown(far, number, sizes)
         self.assertTrue(judge.mix_shows(far, number, sizes, fraction, mix))
         self.assertTrue(judge.prices_show(far, number, sizes, fraction, prices))
         if answer is None:
             self.assertEqual(fraction, (1, 1))
         else:
-            self.assertEqual(read(answer), read(fraction) * FAR)
+            self.assertEqual(read(answer), read(fraction) * judge.FAR)
 
     def check_book(self, book, seen):
         for sizes in SIZES:
