@@ -6,28 +6,44 @@ from rimhouse.fractions import ONE, compared, lowest, over_one_bottom, total
 MOST_HOUSES = 16
 MOST_KINDS = 4
 MOST_AMOUNT = 10 ** 9
+SIZES = ("any", "one", "less", "more")
 
 
-def are_amounts(amounts, many, least):
-    """Whether there are so many amounts, each from the least one to the greatest one allowed."""
-    return len(amounts) == many and all([least <= amount <= MOST_AMOUNT for amount in amounts])
+def is_whole(thing):
+    """Whether a thing is a whole number."""
+    return isinstance(thing, int) and not isinstance(thing, bool)
 
 
-def is_house(house, many_takes, many_gives):
-    """Whether a tuple of two tuples of whole numbers is a house with so many takes and gives."""
-    takes, gives = house
+def are_amounts(thing, many, least):
+    """Whether a thing is a tuple of so many amounts, each from the least one to the greatest one allowed."""
+    if not isinstance(thing, tuple) or len(thing) != many:
+        return False
+    return all([is_whole(amount) and least <= amount <= MOST_AMOUNT for amount in thing])
+
+
+def is_house(thing, many_takes, many_gives):
+    """Whether a thing is a house with so many takes and gives."""
+    if not isinstance(thing, tuple) or len(thing) != 2:
+        return False
+    takes, gives = thing
     if not (are_amounts(takes, many_takes, 1) and are_amounts(gives, many_gives, 0)):
         return False
     return any([give > 0 for give in gives])
 
 
-def is_book(thing):
-    """Whether a list of tuples of two tuples of whole numbers is a book."""
-    if not 1 <= len(thing) <= MOST_HOUSES:
-        return False
-    takes, gives = thing[0]
+def is_any_house(thing):
+    """Whether a tuple of two tuples of whole numbers is a house, whatever its counts of takes and gives."""
+    takes, gives = thing
     if not (1 <= len(takes) <= MOST_KINDS and 1 <= len(gives) <= MOST_KINDS):
         return False
+    return is_house(thing, len(takes), len(gives))
+
+
+def is_book(thing):
+    """Whether a list of tuples of two tuples of whole numbers is a book."""
+    if not 1 <= len(thing) <= MOST_HOUSES or not is_any_house(thing[0]):
+        return False
+    takes, gives = thing[0]
     return all([is_house(house, len(takes), len(gives)) for house in thing])
 
 

@@ -152,6 +152,25 @@ def no_houses(book):
     return (-1, -2, -many, -many - 1, many, many + 1, 10 ** 9, 10 ** 39, -10 ** 39)
 
 
+# Texts that are not so written of any house [14]
+
+GOOD_SIDES = ("1", "1000000000", "3,40", "1,2,3,4", "999999999,1,7")
+BAD_NUMBERS = (
+    "", " ", "-1", "+1", "01", "00", "007", "1000000001", "9999999999", "10000000000", "00000000001", "1.0", "1e3",
+    "0x1", "1_0", "a", "1 ", " 1", "1\t", "\t1", "1;2", "~", "1/2", "--1", "\u0663", "\u00b2", "\uff11",
+)
+BAD_SIDES = BAD_NUMBERS + (
+    ",", "1,", ",1", "1,,2", "1, 2", "1 ,2", "1 2", "1,2,3,4,5", "1,1,1,1,1,1,1,1", "1,a", "1,01", "1,1000000001",
+)
+BAD_TAKES = BAD_SIDES + ("0", "0,1", "1,0", "1,2,3,0", "0,0")
+BAD_GIVES = BAD_SIDES + ("0", "0,0", "0,0,0", "0,0,0,0", "0,0,0,0,1", "0,01", "00,1")
+BAD_HOUSES = tuple(
+    [take + ">" + give for take in BAD_TAKES for give in GOOD_SIDES]
+    + [take + ">" + give for take in GOOD_SIDES for give in BAD_GIVES]
+    + ["", ">", "1", "1,1", "1,2,3", "1>1>1", "1>>1", ">1>1", "1>1>", "1<1", "1>1,", "(1)>1", "1>1\n1", "1-1", "1:1"]
+)
+
+
 # Books to try
 
 def amounts(chance, many, low, high):

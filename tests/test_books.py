@@ -125,6 +125,11 @@ class IsBook(unittest.TestCase):
                         amounts[place] = amount
                         self.assertIs(self.told_of([((3, 3), tuple(amounts))]), True)
 
+    def test_a_truth_is_no_whole_number(self):
+        for house in (((True,), (1,)), ((1,), (True,)), ((1, True), (1, 1)), ((1, 1), (False, 1))):
+            self.assertIs(is_book([house]), False)
+            self.assertIs(is_book([((1,) * len(house[0]), (1,) * len(house[1])), house]), False)
+
 
 class Mixed(unittest.TestCase):
     def check(self, book, mix):
