@@ -93,14 +93,15 @@ class Standing(unittest.TestCase):
             self.check(book[::-1], sizes, [0, 2, 3, 1])
 
     def test_like_shares_parted_by_those_against_the_others(self):
-        # Each is on the rim; against the others they have 5/4, 3/2 and 2.
+        # Each is on the rim, and the later ones are worth more against the others.
         book = [((4, 9), (1,)), ((5, 5), (1,)), ((90, 1), (1,))]
         for sizes in SIZES:
             self.assertEqual([share(book, number, sizes) for number in range(3)], [(1, 1)] * 3)
-            order = sorted(range(3), key=lambda number: -read(share_of_others(book, number, sizes)))
-            self.assertNotEqual(order, [0, 1, 2])
-            self.check(book, sizes, order)
-            self.check(book[::-1], sizes, [2 - number for number in order])
+            against = [share_of_others(book, number, sizes) for number in range(3)]
+            self.assertEqual(against, [(5, 4), (403, 235), (5, 1)])
+            self.check(book, sizes, [2, 1, 0])
+            self.check(book[::-1], sizes, [0, 1, 2])
+            self.check([book[1], book[2], book[0]], sizes, [1, 0, 2])
 
     def test_houses_alike_by_their_numbers(self):
         for many in (1, 2, 5, 16):
